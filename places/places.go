@@ -1,4 +1,5 @@
-package scan
+// Package places tells which numbers are a line's places (shared/doc/00-patterns.md), for the layers that go from one to the next.
+package places
 
 import (
 	"unicode/utf8"
@@ -7,8 +8,8 @@ import (
 	"dredge/chars"
 )
 
-// isPlace tells whether a number is one of a line's places.
-func isPlace(line string, at int, mode api.Mode) bool {
+// Is tells whether a number is one of a line's places.
+func Is(line string, at int, mode api.Mode) bool {
 	if at < 0 || at > len(line) {
 		return false
 	}
@@ -23,4 +24,13 @@ func isWithin(line string, at int) bool {
 		}
 	}
 	return false
+}
+
+// Next is the place behind one of a line's places: behind its last one a number that is none.
+func Next(line string, at int, mode api.Mode) int {
+	bytes := 1
+	if mode.Chars {
+		_, bytes = chars.Next(line, at)
+	}
+	return at + max(1, bytes)
 }
